@@ -1,0 +1,1 @@
+"""Which answers to keep: what it costs to build them, and by which plan."""
