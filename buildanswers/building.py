@@ -15,6 +15,9 @@ class Measures:
             return self.row_count
         return self.sizes[source]
 
+    def lines_together(self, groupings):
+        return sum([self.sizes[grouping] for grouping in groupings])
+
 
 def line_count(rows, grouping):
     return len(set([values_in(row_values, grouping) for row_values, summed in rows]))
@@ -24,13 +27,25 @@ def values_in(row_values, grouping):
     return tuple([number for place, number in enumerate(row_values) if grouping >> place & 1])
 
 
+def has_all_columns(upper, lower):
+    return upper & lower == lower
+
+
 def is_above(upper, lower):
-    return upper != lower and upper & lower == lower
+    return upper != lower and has_all_columns(upper, lower)
+
+
+def all_above(grouping, groupings):
+    return [other for other in groupings if is_above(other, grouping)]
+
+
+def smallest(groupings, measures):
+    """The one with the least size, of alike ones the lesser number; the table if there is none."""
+    return min(groupings, key=lambda grouping: (measures.sizes[grouping], grouping), default=FROM_TABLE)
 
 
 def parent_among(grouping, groupings, measures):
-    above = [other for other in groupings if is_above(other, grouping)]
-    return min(above, key=lambda other: (measures.sizes[other], other), default=FROM_TABLE)
+    return smallest(all_above(grouping, groupings), measures)
 
 
 def step_cost(grouping, source, measures):

@@ -7,15 +7,14 @@ SHOWN = 1
 WISH = 2
 PLAIN = 3
 BEST = 4
-# How many whole numbers and how many lists each call has, in the order of the calls' numbers.
-# The last four, check, idle, from and help, can be read, but nothing answers them so far.
+CHECK = 5
+IDLE = 6
+FROM = 7
+# How many whole numbers and how many lists each call has, in the order of the calls' numbers;
+# the last one is help.
 WHOLE_NUMBERS = (0, 0, 0, 0, 0, 0, 0, 1, 0)
 LISTS = (1, 0, 1, 0, 0, 1, 0, 0, 1)
 NO_TABLE = -1
-
-
-class UnansweredCall(Exception):
-    """A call that can be read, but that nothing answers so far."""
 
 
 class CallWalk:
@@ -73,4 +72,10 @@ def answer_of(holder, call, arguments):
         return holder.plain()
     if call == BEST:
         return holder.best()
-    raise UnansweredCall(call)
+    if call == CHECK:
+        return holder.check(arguments[0])
+    if call == IDLE:
+        return holder.idle()
+    if call == FROM:
+        return holder.ways_to_build(arguments[0])
+    return holder.with_helpers(arguments[0])

@@ -10,61 +10,19 @@ import random
 import unittest
 
 from buildanswers.helpers import helper_sets
-from tests.helper import BEST, load, run, table_text, wish
+from tests.helper import (
+    BEST, Replay, Told, above, expected_steps, load, product_case, random_case, run, searched_helpers, sizes_of,
+    table_text, wish,
+)
 
 CUBE = list(itertools.product((0, 1), repeat=4))
-
-
-class Told:
-    """What best answers, taken apart."""
-
-    def __init__(self, answer):
-        self.cost, self.most, helper_count = answer[:3]
-        self.helpers = answer[3:3 + helper_count]
-        step_count = answer[3 + helper_count]
-        flat = answer[4 + helper_count:]
-        assert len(flat) == 2 * step_count, answer
-        self.steps = list(zip(flat[::2], flat[1::2]))
 
 
 def best_answer(width, rows, wished):
     return run(load(table_text(width, rows)), wish(*wished), BEST)[2]
 
 
-def sizes_of(width, rows):
-    sizes = []
-    for grouping in range(1 << width):
-        columns = [column for column in range(width) if grouping & (1 << column)]
-        sizes.append(len({tuple(row[column] for column in columns) for row in rows}))
-    return sizes
-
-
-def above(upper, lower):
-    return upper != lower and upper | lower == upper
-
-
-def parent(grouping, members, sizes):
-    found = sorted((sizes[other], other) for other in members if above(other, grouping))
-    return found[0][1] if found else -1
-
-
-def searched_helpers(wished, sizes, row_count):
-    """The cost with the best helpers, and they, from all choices of at most three."""
-    others = [grouping for grouping in range(len(sizes)) if grouping not in wished]
-    found = []
-    for count in range(4):
-        for helpers in itertools.combinations(others, count):
-            members = list(wished) + list(helpers)
-            cost = 0
-            for grouping in members:
-                reads = [sizes[other] for other in members if above(other, grouping)]
-                cost += min(reads, default=row_count) + sizes[grouping]
-            found.append((cost, count, sum(2 ** grouping for grouping in helpers), list(helpers)))
-    cost, _, _, helpers = min(found)
-    return cost, helpers
-
-
-def searched_cost(wished, sizes, row_count):
+def cheapest_plan(wished, sizes, row_count):
     """The cost of the cheapest of all plans with at most three helpers that end with just what is wished."""
     goal = frozenset(wished)
     queue = [(0, 0, frozenset(), frozenset())]
@@ -91,54 +49,6 @@ def searched_cost(wished, sizes, row_count):
     return None
 
 
-def expected_steps(wished, helpers, sizes):
-    members = sorted(list(wished) + list(helpers), key=lambda grouping: (-bin(grouping).count("1"), grouping))
-    steps = []
-    for place, grouping in enumerate(members):
-        steps.append((grouping, parent(grouping, members, sizes)))
-        to_come = [parent(other, members, sizes) for other in members[place + 1:]]
-        dropped = [step[0] for step in steps if step[1] == -2]
-        for helper in sorted(helpers):
-            if helper in members[:place + 1] and helper not in dropped and helper not in to_come:
-                steps.append((helper, -2))
-    return steps
-
-
-def replayed(steps, sizes, row_count):
-    """Cost, most lines and what is there at the end; a step that cannot be done raises."""
-    there = []
-    cost = 0
-    most = 0
-    for grouping, source in steps:
-        if source == -2:
-            there.remove(grouping)
-        else:
-            assert grouping not in there
-            assert source == -1 or (source in there and above(source, grouping))
-            cost += sizes[grouping] + (row_count if source == -1 else sizes[source])
-            there.append(grouping)
-        most = max(most, sum(sizes[other] for other in there))
-    return cost, most, sorted(there)
-
-
-def random_case(chance, width):
-    """Rows and what is wished; few unlike values, so that helpers often pay."""
-    greatest = [chance.choice((0, 0, 1, 1, 2, 3)) for _ in range(width)]
-    row_count = chance.choice((0, 1, 4, 8, 12, 16, 16, 16))
-    rows = [tuple(chance.randint(0, most) for most in greatest) for _ in range(row_count)]
-    wished = chance.sample(range(1 << width), chance.randint(0, min(7, 1 << width)))
-    return rows, sorted(wished)
-
-
-def product_case(chance):
-    """All rows of some values for each column, and groupings of few columns: here more helpers pay."""
-    counts = chance.choice(([2, 2, 2, 2], [4, 4, 1, 1], [4, 2, 2, 1], [3, 5, 1, 1], [2, 8, 1, 1]))
-    chance.shuffle(counts)
-    rows = list(itertools.product(*[range(count) for count in counts]))
-    small = [grouping for grouping in range(16) if bin(grouping).count("1") <= 2]
-    return rows, sorted(chance.sample(small, chance.randint(4, 8)))
-
-
 class BestCase(unittest.TestCase):
     def check(self, width, rows, wished):
         """All that the document says of one answer, but point 3 for every plan there is."""
@@ -147,7 +57,9 @@ class BestCase(unittest.TestCase):
         cost, helpers = searched_helpers(wished, sizes, len(rows))
         self.assertEqual((told.cost, told.helpers), (cost, helpers), (rows, wished))
         self.assertEqual(told.steps, expected_steps(wished, helpers, sizes), (rows, wished))
-        self.assertEqual(replayed(told.steps, sizes, len(rows)), (told.cost, told.most, sorted(wished)))
+        replay = Replay(told.steps, rows)
+        self.assertEqual((replay.whole, replay.cost, replay.most), (True, told.cost, told.most), (rows, wished))
+        self.assertEqual(sorted(replay.there), sorted(wished), (rows, wished))
         for helper in told.helpers:
             children = [grouping for grouping, source in told.steps if source == helper]
             self.assertGreaterEqual(len(children), 2, (rows, wished))
@@ -279,7 +191,7 @@ class Searched(BestCase):
 class EveryPlan(BestCase):
     def check_cost(self, width, rows, wished):
         told = self.check(width, rows, wished)
-        least = searched_cost(wished, sizes_of(width, rows), len(rows))
+        least = cheapest_plan(wished, sizes_of(width, rows), len(rows))
         self.assertEqual(told.cost, least, (rows, wished))
 
     def test_all_tables_of_two_columns_with_up_to_four_rows(self):

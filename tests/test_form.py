@@ -33,6 +33,8 @@ UNUSED_NAMES = (
     "copyright credits delattr dir eval exec exit gc getattr globals hasattr help id importlib license locals "
     "methodcaller os quit setattr super sys vars chr print hash next map filter iter bin hex oct round pow object"
 ).split()
+WALKED_AT_ONCE = "zip enumerate reversed range".split()
+WALKING = "list tuple dict sorted sum any all enumerate zip".split()
 UNUSED_WORDS = re.compile(
     r"\b(type|typing|typing_extensions|enum|Enum|IntEnum|StrEnum|Flag|IntFlag|Generic|Protocol|ABC|ABCMeta|"
     r"namedtuple|NamedTuple|TypedDict|TYPE_CHECKING|abstractmethod)\b|dataclass|overload|contextmanager"
@@ -147,6 +149,19 @@ class Form(unittest.TestCase):
             for node in ast.walk(tree):
                 if isinstance(node, ast.Name) and isinstance(node.ctx, ast.Load):
                     self.assertIn(node.id, bound + OWN_NAMES_OF_PYTHON, path)
+
+    def test_what_is_walked_at_once_is_not_kept(self):
+        for path, tree in self.trees.items():
+            walked = []
+            for node in ast.walk(tree):
+                if isinstance(node, (ast.For, ast.comprehension)):
+                    walked.append(node.iter)
+                elif isinstance(node, ast.Call) and isinstance(node.func, ast.Name) and node.args:
+                    if node.func.id in WALKING:
+                        walked.append(node.args[0])
+            for node in ast.walk(tree):
+                if isinstance(node, ast.Call) and ast.unparse(node.func) in WALKED_AT_ONCE:
+                    self.assertIn(node, walked, (path, node.lineno))
 
     def test_methods(self):
         methods, stored = methods_and_values(self.trees.values())
